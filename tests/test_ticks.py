@@ -228,14 +228,14 @@ class Stuck(unittest.TestCase):
         self.assertEqual(run.pulses, [(0, 3, 40), (2001, 3, 40), (2230, 3, 40)])
         self.assertEqual(run.game.tell_device(0), [0, 1, 128, 1, 1, 1, 2000])
 
-    def test_an_empty_device_waits_and_keeps_its_tries(self):
+    def test_an_empty_device_waits(self):
         # Two go at once within a try that had another behind it: that one waits.
         run = Run(PAIR, 3)
         run.run([(3, 1), (3, 1)] + still(0, 129) + still(0, 3000))
         self.assertEqual(run.game.tell_device(0), [0, 0, 128, 0, 1, 0, 0])
         self.assertEqual(run.pulses, [(0, 3, 40)])
 
-    def test_a_shaking_device_is_told_stuck_all_the_same(self):
+    def test_a_shaking_device_is_not_tried_again(self):
         # A try that is under way goes on while the device isn't at rest; the next one waits for rest.
         run = Run(PAIR, 3)
         shaking = [(1 if tick // 50 % 2 else 3, 0) for tick in range(4000)]
